@@ -1,0 +1,1 @@
+"""Firstwake: programs whose units are initialized at their first use."""

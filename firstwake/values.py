@@ -1,0 +1,33 @@
+"""Kinds and limits of plain values, as the arguments of all modules share them."""
+
+MOST_NUMBER = 65535
+
+
+def is_integer(thing):
+    """Tell whether thing is an integer; True and False are none."""
+    return isinstance(thing, int) and not isinstance(thing, bool)
+
+
+def is_within(thing, low, high):
+    """Tell whether thing is an integer from low to high."""
+    return is_integer(thing) and low <= thing <= high
+
+
+def is_number(thing):
+    """Tell whether thing is a number that fields, slots and inputs may hold."""
+    return is_within(thing, 0, MOST_NUMBER)
+
+
+def is_index(thing, many):
+    """Tell whether thing is the number of one of so many things, counted from 0."""
+    return is_within(thing, 0, many - 1)
+
+
+def is_tuple(thing, size):
+    """Tell whether thing is a tuple with so many members."""
+    return isinstance(thing, tuple) and len(thing) == size
+
+
+def are_different(things):
+    """Tell whether no two members are equal; they are integers, strings and tuples of such."""
+    return len(set(things)) == len(things)
