@@ -1,6 +1,6 @@
 import unittest
 
-from firstwake.programs import accesses, is_program
+from firstwake.programs import accessed_unit, accesses, is_program
 from tests.samples import (
     EXAMPLES, GREATEST, LEAST, LIBRARY, NO_PROGRAMS, OTHER_KINDS, functions_with, nodes, replaced, units_with,
 )
@@ -254,6 +254,17 @@ class Accesses(unittest.TestCase):
     def test_tuples_of_names_and_places(self):
         for body, place in accesses(GREATEST):
             self.assertEqual([type(part) for part in (body, *body, place)], [tuple, str, int, int])
+
+    def test_units_of_accesses(self):
+        bodies = {("function", number): body for number, (_, body) in enumerate(GREATEST[1])}
+        bodies.update({("unit", number): unit[2] for number, unit in enumerate(GREATEST[0])})
+        found = [accessed_unit(GREATEST, bodies[body][place]) for body, place in accesses(GREATEST)]
+        self.assertEqual(found, [3, 4, 1, 1, 2, 1, 0, 5, 0, 2, 4, 5])
+
+    def test_units_of_other_instructions(self):
+        for word in ["number", "copy", "add", "fail", "input", "show", "branch"]:
+            operands = {**SHARED, **ALONE}[word][0][0]
+            self.assertIsNone(accessed_unit(GREATEST, (word, *operands)))
 
     def test_a_new_list_each_time(self):
         first = accesses(GREATEST)
