@@ -10,6 +10,7 @@ MOST_IN_INITIALIZER = 6
 MOST_IN_FUNCTION = 8
 MOST_INPUTS = 100
 LAST_SLOT = 2
+CHECKED_WORDS = ("read", "write", "call")
 
 # The kinds of the operands behind each word; a "field" is one of the unit just before it.
 FORMS = {
@@ -59,7 +60,7 @@ def is_plan(program, thing):
 def accesses(program):
     """Return the ascending list of all accesses (body, place) of the program."""
     need_program(program)
-    return [(body, place) for body, place, _ in _instructed_accesses(program)]
+    return _spots_where(program, CHECKED_WORDS + ("wake",))
 
 
 def need_program(program):
@@ -98,9 +99,23 @@ def are_unchecked(program, thing):
     """Tell whether thing is a list of different accesses of the program, none of them a "wake"."""
     if not isinstance(thing, list):
         return False
-    found = _instructed_accesses(program)
-    allowed = [(body, place) for body, place, instruction in found if instruction[0] != "wake"]
+    allowed = checked_accesses(program)
     return all([_is_spot(member) and member in allowed for member in thing]) and are_different(thing)
+
+
+def checked_accesses(program):
+    """Return the ascending list of all accesses (body, place) that are not of a "wake"."""
+    return _spots_where(program, CHECKED_WORDS)
+
+
+def is_access(program, body, place):
+    """Tell whether there is an access at the place of the body."""
+    return _is_spot((body, place)) and (body, place) in _spots_where(program, CHECKED_WORDS + ("wake",))
+
+
+def is_read(program, body, place):
+    """Tell whether there is a "read" at the place of the body."""
+    return _is_spot((body, place)) and (body, place) in _spots_where(program, ("read",))
 
 
 def _is_spot(thing):
@@ -126,13 +141,13 @@ def _is_extra(program, thing):
     return is_index(place, len(functions[function][1])) and is_index(unit, len(units))
 
 
-def _instructed_accesses(program):
-    """Return the ascending list of (body, place, instruction) for all accesses."""
+def _spots_where(program, words):
+    """Return the ascending list of (body, place) for all instructions with one of these words."""
     return [
-        (body, place, instruction)
+        (body, place)
         for body, code in _bodies(program)
         for place, instruction in enumerate(code)
-        if accessed_unit(program, instruction) is not None
+        if instruction[0] in words
     ]
 
 

@@ -31,3 +31,17 @@ def is_tuple(thing, size):
 def are_different(things):
     """Tell whether no two members are equal; they are integers, strings and tuples of such."""
     return len(set(things)) == len(things)
+
+
+def is_same(thing, value):
+    """Tell whether thing is equal to a value without booleans, and has no booleans itself."""
+    return thing == value and not _has_boolean(thing)
+
+
+def _has_boolean(thing):
+    # True equals 1, also as a key and deep in one, so equal things may still differ in this.
+    if isinstance(thing, dict):
+        return any([_has_boolean(key) or _has_boolean(thing[key]) for key in thing])
+    if isinstance(thing, (tuple, list)):
+        return any([_has_boolean(member) for member in thing])
+    return isinstance(thing, bool)

@@ -1,5 +1,7 @@
 """Programs that several tests use, and ways to change a part of a value."""
 
+from firstwake.plain import full_run
+
 # The least program there is: one unit without anything, one function with one instruction.
 LEAST = (((None, 0, ()),), ((0, (("input", 0),)),))
 
@@ -85,3 +87,29 @@ def functions_with(body, number=1):
     codes = [(0, (("show", 0),))] * 4
     codes[number] = (2, body)
     return (units_with(())[0], tuple(codes))
+
+
+def one_function(units, *code):
+    """Return a program with these units and one function, of unit 0, with this code."""
+    return (tuple(units), ((0, code),))
+
+
+# The first unit of most of these programs, to which function 0 belongs.
+FIRST = (None, 0, ())
+
+
+def records(program, inputs=(), plan=((), (), ())):
+    """Return what full_run returns as a dict."""
+    names = ["end", "output", "path", "seen", "own", "order", "finds"]
+    return dict(zip(names, full_run(program, list(inputs), tuple(map(list, plan))), strict=True))
+
+
+def nested_calls(*codes):
+    """Return a program of one unit whose functions have these codes, each given as a list of (instruction, times)."""
+    return ((FIRST,), tuple((0, tuple(one for one, times in code for _ in range(times))) for code in codes))
+
+
+SHOW = ("show", 0)
+# Programs that go straight on through 2000 and 2001 configurations.
+JUST_FEW = nested_calls([(("call", 1), 8)], [(("call", 2), 4), (("call", 3), 3)], [(("call", 3), 8)], [(SHOW, 6)])
+TOO_MANY = nested_calls([(("call", 1), 5), (SHOW, 1)], [(("call", 2), 7)], [(("call", 3), 8)], [(SHOW, 6)])

@@ -2,9 +2,11 @@ import copy
 import inspect
 import unittest
 
-from firstwake import programs, reaches
+from firstwake import checks, placements, plain, programs, reaches, walks
 from firstwake.errors import NoProgram
-from tests.samples import EXAMPLES, GREATEST, LEAST, LOCKED, NO_PROGRAMS
+from tests.samples import (
+    BROKEN, EXAMPLES, GREATEST, LEAST, LIBRARY, LOCKED, NO_PROGRAMS, PLACED, RUN, WOKEN, nodes,
+)
 
 PLAN = ([2, 0], [(("unit", 1), 0)], [(0, 0, 1)])
 # Each function, its parameters in their order, and arguments for a call.
@@ -21,7 +23,44 @@ CALLS = [
     (reaches.chain, ["program", "unit", "other"], [GREATEST, 2, 5]),
     (reaches.chain, ["program", "unit", "other"], [GREATEST, 5, 2]),
     (reaches.loops, ["program"], [GREATEST]),
+    (plain.run, ["program", "inputs"], [LIBRARY, [0, 5]]),
+    (plain.full_run, ["program", "inputs", "plan"], [LOCKED, [0, 5], PLAN]),
+    (plain.full_run, ["program", "inputs", "plan"], [BROKEN, [0], ([0], [(("function", 0), 1)], [(0, 1, 1)])]),
+    (plain.woken_run, ["program", "inputs", "unit", "moment"], [WOKEN, [], 2, 1]),
+    (walks.configurations, ["program"], [LIBRARY]),
+    (walks.are_configurations, ["program", "thing"], [RUN, walks.configurations(RUN)]),
+    (walks.are_configurations, ["program", "thing"], [RUN, {(((False, 0),), (), ()): [0, [True]]}]),
+    (checks.statuses, ["program"], [LOCKED]),
+    (checks.status_run, ["program", "body", "place", "status"], [BROKEN, ("function", 0), 1, "asleep"]),
+    (checks.status_run, ["program", "body", "place", "status"], [BROKEN, ("function", 0), 1, "waking"]),
+    (checks.early_reads, ["program"], [LOCKED]),
+    (checks.early_run, ["program", "body", "place"], [LOCKED, ("unit", 2), 0]),
+    (checks.needless, ["program"], [LOCKED]),
+    (placements.placement, ["program", "function", "unit", "prices"], [PLACED, 0, 1, [5, 1, 1]]),
+    (placements.is_placement, ["program", "function", "unit", "thing"], [PLACED, 0, 1, [1, 2]]),
+    (placements.is_placement, ["program", "function", "unit", "thing"], [PLACED, 0, 1, [2, [1]]]),
+    (placements.are_walks, ["program", "function", "unit", "prices", "thing"], [PLACED, 0, 1, [5, 1, 1], [([0, 1], 1)]]),
+    (placements.are_walks, ["program", "function", "unit", "prices", "thing"], [PLACED, 0, 1, [5, 1, 1], [[[0], {}]]]),
+    (placements.placed, ["program", "function", "unit", "places"], [PLACED, 0, 1, [0, 2]]),
 ]
+MODULES = {
+    programs: ["is_program", "is_inputs", "is_plan", "accesses"],
+    reaches: ["reach", "chain", "loops"],
+    plain: ["run", "full_run", "woken_run"],
+    walks: ["configurations", "are_configurations"],
+    checks: ["statuses", "status_run", "early_reads", "early_run", "needless"],
+    placements: ["placement", "is_placement", "are_walks", "placed"],
+}
+
+
+def members(thing):
+    """Return the list of all lists and dicts in thing, itself included."""
+    found = [thing] if isinstance(thing, (list, dict)) else []
+    if isinstance(thing, (list, tuple)):
+        return found + [one for part in thing for one in members(part)]
+    if isinstance(thing, dict):
+        return found + [one for part in thing.values() for one in members(part)]
+    return found
 
 
 class Calls(unittest.TestCase):
@@ -31,9 +70,11 @@ class Calls(unittest.TestCase):
                 self.assertEqual(list(inspect.signature(function).parameters), names)
 
     def test_each_is_defined_in_its_module(self):
-        for function, _, _ in CALLS:
-            module = reaches if function.__name__ in ("reach", "chain", "loops") else programs
-            self.assertEqual(function.__module__, module.__name__)
+        for module, names in MODULES.items():
+            for name in names:
+                self.assertEqual(getattr(module, name).__module__, module.__name__)
+        self.assertEqual({function for function, _, _ in CALLS},
+                         {getattr(module, name) for module, names in MODULES.items() for name in names})
 
     def test_calls_by_names_return_what_calls_by_places_return(self):
         for function, names, values in CALLS:
@@ -65,13 +106,41 @@ class Calls(unittest.TestCase):
         inputs.append(True)
         self.assertIs(programs.is_inputs(inputs), False)
 
-    def test_lists_that_are_returned_are_new(self):
+    def test_changed_arguments_are_passed_again(self):
+        inputs, plan = [], ([], [], [])
+        found = [plain.full_run(RUN, inputs, plan)]
+        plan[1].append((("unit", 2), 0))
+        found.append(plain.full_run(RUN, inputs, plan))
+        plan[0].append(2)
+        found.append(plain.full_run(RUN, inputs, plan))
+        self.assertEqual([one[1] for one in found], [[7], [7], [0]])
+        prices = [5, 1, 1]
+        self.assertEqual(placements.placement(PLACED, 0, 1, prices)[0], 2)
+        prices[0] = 1
+        self.assertEqual(placements.placement(PLACED, 0, 1, prices)[0], 1)
+        thing = walks.configurations(RUN)
+        self.assertIs(walks.are_configurations(RUN, thing), True)
+        thing.popitem()
+        self.assertIs(walks.are_configurations(RUN, thing), False)
+
+    def test_arguments_are_not_kept_in_what_is_returned(self):
+        for function, _, values in CALLS:
+            passed = {id(one) for one in members(values)}
+            self.assertEqual([one for one in members(function(*values)) if id(one) in passed], [])
+
+    def test_lists_and_dicts_that_are_returned_are_new(self):
         for function, _, values in CALLS:
             first, second = function(*values), function(*values)
-            if isinstance(first, list):
-                self.assertIsNot(first, second)
-                first.append(None)
-                self.assertEqual(function(*values), second)
+            found = members(first) + members(second)
+            self.assertEqual(len({id(one) for one in found}), len(found))
+            for one in members(first):
+                one.clear()
+            self.assertEqual(function(*values), second)
+
+    def test_what_is_returned_is_of_plain_kinds(self):
+        for function, _, values in CALLS:
+            for _, part in nodes(function(*values)):
+                self.assertIn(type(part), [int, str, bool, type(None), list, tuple, dict])
 
     def test_truth_is_told_by_true_and_false(self):
         for thing in [LEAST, None, [], [0], [-1], GREATEST]:

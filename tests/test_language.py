@@ -186,7 +186,8 @@ class Language(unittest.TestCase):
                 node for owner in ast.walk(tree) if isinstance(owner, ast.ClassDef) for node in owner.body
                 if isinstance(node, ast.FunctionDef)
             ]
-            for name in set(bound_names(tree)) - {node.name for node in methods}:
+            # The examples of other tests leave a builtin "_" behind, which is none of Python's own.
+            for name in set(bound_names(tree)) - {node.name for node in methods} - {"_"}:
                 self.assertFalse(hasattr(builtins, name), (file, name))
             for node in ast.walk(tree):
                 if isinstance(node, ast.Name) and node.id == "_":

@@ -1,0 +1,34 @@
+"""The examples of the document, word for word, that the modules so far can run."""
+
+import doctest
+import unittest
+
+EXAMPLES = '''
+>>> from firstwake.plain import run
+>>> program = (((None, 0, ()), (None, 1, (("number", 0, 7), ("write", 1, 0, 0))), (None, 1, (("read", 0, 1, 0), ("write", 2, 0, 0)))), ((0, (("read", 0, 1, 0), ("read", 0, 2, 0), ("show", 0))),))
+>>> run(program, [])
+('done', [7])
+>>> from firstwake.plain import full_run
+>>> program = (((None, 0, ()), (None, 1, (("number", 0, 7), ("write", 1, 0, 0))), (None, 1, (("read", 0, 1, 0), ("write", 2, 0, 0)))), ((0, (("read", 0, 1, 0), ("read", 0, 2, 0), ("show", 0))),))
+>>> full_run(program, [], ([2], [(("unit", 2), 0)], []))[:2]
+('done', [0])
+>>> from firstwake.checks import status_run
+>>> program = (((None, 0, ()), (None, 1, (("fail",),))), ((0, (("branch", 2), ("read", 0, 1, 0))),))
+>>> [status_run(program, ("function", 0), 1, "asleep"), status_run(program, ("function", 0), 1, "broken")]
+[[0], None]
+>>> from firstwake.placements import placement
+>>> program = (((None, 0, ()), (None, 1, ())), ((0, (("branch", 2), ("read", 0, 1, 0), ("read", 0, 1, 0))),))
+>>> [placement(program, 0, 1, [5, 1, 1])[:2], placement(program, 0, 1, [1, 1, 1])[:2]]
+[(2, [1, 2]), (1, [0])]
+'''
+
+
+class Examples(unittest.TestCase):
+    def test_all(self):
+        test = doctest.DocTestParser().get_doctest(EXAMPLES, {}, "examples", None, 0)
+        runner = doctest.DocTestRunner()
+        self.assertEqual(runner.run(test), (0, EXAMPLES.count(">>>")))
+
+
+if __name__ == "__main__":
+    unittest.main()
