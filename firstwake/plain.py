@@ -42,6 +42,7 @@ def _need_inputs(inputs):
 def _executed(program, inputs, plan, unit, moment):
     """Return the execution at its end; a unit that is not None is accessed once more at the moment."""
     execution = Execution(program, plan)
+    # No unit ahead is broken when its turn comes: what breaks it before ends the execution.
     if execution.access_all(plan[0]):
         execution.begin(0)
     else:

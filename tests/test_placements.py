@@ -125,11 +125,13 @@ class Placements(unittest.TestCase):
         self.assertEqual(self.assert_placement(program, 0, 1, [9, 2, 9, 2, 5, 9, 3, 3]), (3, [7]))
 
     def test_a_flow_that_has_to_be_turned_back(self):
-        # The straight walk over place 1 and 2 must give way for both targets to be fed.
-        code = [("branch", 3), ("branch", 4), ("branch", 5), ("branch", 5), ("read", 0, 1, 0), ("read", 0, 1, 0)]
+        # The shortest walk, over place 3 to place 7, must give way to one over place 3 to 6 and one over place 2 to 7.
+        code = [("branch", 3), ("show", 0), ("branch", 7), ("branch", 7), ("show", 0), ("show", 0), ("read", 0, 1, 0),
+                ("write", 1, 0, 0)]
         program = one_function([FIRST, ONE], *code)
+        self.assertEqual(self.assert_placement(program, 0, 1, [2, 1, 1, 1, 1, 1, 1, 1])[0], 2)
         for prices in itertools.product([1, 2], repeat=6):
-            self.assert_placement(program, 0, 1, list(prices))
+            self.assert_placement(program, 0, 1, [4, *prices[:4], 1, *prices[4:]])
 
     def test_ways_on(self):
         fails = one_function([FIRST, ONE], ("branch", 2), ("fail",), ("fail",), ("read", 0, 1, 0))

@@ -18,8 +18,10 @@ class Wakings(unittest.TestCase):
         code = (("show", 0), ("show", 1), ("show", 2), ("number", 0, 1), ("number", 1, 2), ("number", 2, 3))
         program = ((FIRST,), ((0, (("number", 1, 8), ("call", 1), ("call", 1), ("show", 1))), (0, code)))
         self.assertEqual(run(program, []), ("done", [0] * 6 + [8]))
-        woken = ((FIRST, (None, 1, (("write", 1, 0, 2),))), ((0, (("number", 2, 8), ("read", 0, 1, 0), ("show", 0))),))
-        self.assertEqual(run(woken, []), ("done", [0]))
+        for slot in range(3):
+            units = [FIRST, (None, 1, (("write", 1, 0, slot), ("number", slot, 5)))]
+            woken = one_function(units, ("number", slot, 8), ("read", 0, 1, 0), ("show", 0), ("show", slot))
+            self.assertEqual(run(woken, []), ("done", [0, 8 if slot else 0]))
 
     def test_function_0_is_called_and_wakes_its_unit(self):
         program = ((FIRST, (None, 0, ())), ((1, (("show", 0),)), (0, (("fail",),))))

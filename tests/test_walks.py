@@ -6,7 +6,9 @@ from firstwake.errors import TooMany
 from firstwake.walks import are_configurations, configurations
 from tests.drawn import drawn_program
 from tests.oracle import all_executions
-from tests.samples import BROKEN, EXAMPLES, FIRST, JUST_FEW, OTHER_KINDS, RUN, TOO_MANY, nodes, one_function, replaced
+from tests.samples import (
+    BROKEN, EXAMPLES, FIRST, JUST_FEW, OTHER_KINDS, RUN, SHOW, TOO_MANY, nested_calls, nodes, one_function, replaced,
+)
 
 # One with loops, calls, wakes of units that break and that do not, and several numbers of inputs.
 MIXED = (
@@ -103,6 +105,14 @@ class Configurations(unittest.TestCase):
         for thing in [{}, None, configurations(JUST_FEW)]:
             with self.assertRaises(TooMany):
                 are_configurations(TOO_MANY, thing)
+
+    def test_more_inputs_than_a_call_may_pass(self):
+        program = nested_calls([(("call", 1), 3), (SHOW, 1)], [(("call", 2), 8)], [(("input", 0), 8)])
+        found = configurations(program)
+        self.assertEqual((len(found), max(found.values())), (3 * (1 + 8 * 9) + 1, 3 * 64))
+        self.assertEqual(found[(((0, 3),), ("awake",), ())], 192)
+        self.assertEqual(found[(((0, 2), (1, 7), (2, 7)), ("awake",), ())], 191)
+        self.assertIs(are_configurations(program, found), True)
 
     def test_returned_dicts_are_new(self):
         found = configurations(MIXED)
