@@ -1,10 +1,9 @@
 """Checks: what accesses find in all runs, early reads, and accesses that need no check."""
 
-from firstwake.errors import NoAccess, NoState, TooLong
-from firstwake.programs import MOST_INPUTS, checked_accesses, is_access, is_read, need_program
+from firstwake.errors import NoAccess, TooLong
+from firstwake.needs import need_access, need_status
+from firstwake.programs import MOST_INPUTS, checked_accesses, is_read, need_program
 from firstwake.walks import all_runs
-
-STATUSES = ("asleep", "waking", "awake", "broken")
 
 
 def statuses(program):
@@ -19,10 +18,8 @@ def statuses(program):
 def status_run(program, body, place, status):
     """Return the fewest inputs of a run that finds the status at the access, or None."""
     need_program(program)
-    if not is_access(program, body, place):
-        raise NoAccess("this is no access of the program")
-    if status not in STATUSES:
-        raise NoState("this is no status")
+    need_access(program, body, place)
+    need_status(status)
     runs = all_runs(program)
     return _fewest_inputs(runs, runs.first_finds, (body, place, status))
 
@@ -56,7 +53,7 @@ def _fewest_inputs(runs, firsts, wanted):
     """Return the inputs that lead to the first configuration behind which the wanted is, None if it is nowhere."""
     if wanted not in firsts:
         return None
-    inputs = runs.inputs_to(firsts[wanted])
+    inputs = runs.search.steps_to(firsts[wanted])
     if len(inputs) > MOST_INPUTS:
         raise TooLong("this takes too many inputs")
     return inputs

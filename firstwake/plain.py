@@ -1,7 +1,8 @@
 """Plain executions: runs with and without plans, and what is recorded of them."""
 
-from firstwake.errors import NoInputs, NoNumber, NoPlan
-from firstwake.programs import accessed_unit, is_inputs, is_plan, need_program, need_unit
+from firstwake.errors import NoNumber
+from firstwake.needs import need_inputs, need_plan
+from firstwake.programs import accessed_unit, need_program, need_unit
 from firstwake.values import MOST_NUMBER, is_integer
 
 TAKING_WORDS = ("input", "branch")
@@ -10,7 +11,7 @@ TAKING_WORDS = ("input", "branch")
 def run(program, inputs):
     """Return (end, output) of the run with these inputs."""
     need_program(program)
-    _need_inputs(inputs)
+    need_inputs(inputs)
     execution = _executed(program, inputs, ([], [], []), None, 0)
     return execution.end, execution.shown
 
@@ -18,25 +19,19 @@ def run(program, inputs):
 def full_run(program, inputs, plan):
     """Return (end, output, path, seen, own, order, finds) of the execution with these inputs and the plan."""
     need_program(program)
-    _need_inputs(inputs)
-    if not is_plan(program, plan):
-        raise NoPlan("this is no plan of the program")
+    need_inputs(inputs)
+    need_plan(program, plan)
     return _executed(program, inputs, plan, None, 0).records()
 
 
 def woken_run(program, inputs, unit, moment):
     """Return what full_run does, for the run in which the unit is accessed once more at the moment."""
     need_program(program)
-    _need_inputs(inputs)
+    need_inputs(inputs)
     need_unit(program, unit)
     if not (is_integer(moment) and moment >= 0):
         raise NoNumber("this is no moment")
     return _executed(program, inputs, ([], [], []), unit, moment).records()
-
-
-def _need_inputs(inputs):
-    if not is_inputs(inputs):
-        raise NoInputs("these are no inputs")
 
 
 def _executed(program, inputs, plan, unit, moment):
@@ -51,6 +46,33 @@ def _executed(program, inputs, plan, unit, moment):
         # There is one such instruction at most: each one that takes place makes the path longer.
         is_moment = unit is not None and len(execution.path) == moment
         execution.advance(inputs, [unit] if is_moment else [])
+    return execution
+
+
+def compute(instruction, slots, numbers):
+    """Do with slots and with the fields' numbers what the instruction does; a branch, a call and a wake do nothing."""
+    word = instruction[0]
+    if word == "number":
+        slots[instruction[1]] = instruction[2]
+    elif word == "copy":
+        slots[instruction[1]] = slots[instruction[2]]
+    elif word == "add":
+        slots[instruction[1]] = (slots[instruction[1]] + instruction[2]) % (MOST_NUMBER + 1)
+    elif word == "read":
+        slots[instruction[1]] = numbers.get((instruction[2], instruction[3]), 0)
+    elif word == "write":
+        numbers[(instruction[1], instruction[2])] = slots[instruction[3]]
+
+
+def execution_at(model, stack, statuses, last):
+    """Return an execution with the model's program and plan that has come to the stack; its numbers are 0."""
+    execution = Execution(model.program, ([], [], []))
+    execution.unchecked = model.unchecked
+    execution.extra = model.extra
+    execution.frames = [[function, place, [0, 0, 0]] for function, place in stack]
+    execution.statuses = list(statuses)
+    execution.last = last
+    execution.is_begun = True
     return execution
 
 
@@ -70,6 +92,7 @@ class Execution:
         self.counts = {}
         self.frames = []
         self.is_begun = False
+        self.is_waiting = False
         self.taken = 0
         self.end = None
         self.shown = []
@@ -83,6 +106,15 @@ class Execution:
     def records(self):
         """Return what full_run returns."""
         return self.end, self.shown, self.path, self.seen, self.own, self.order, self.finds
+
+    def stack(self):
+        """Return the tuple of (function, place) of all frames."""
+        return tuple([(function, place) for function, place, _ in self.frames])
+
+    def instruction(self):
+        """Return the instruction that the last frame stands at."""
+        function, place, _ = self.frames[-1]
+        return self.program[1][function][1][place]
 
     def begin(self, function):
         """Call the function; then its frame stands at its first instruction, if the access of its unit did not fail."""
@@ -102,19 +134,23 @@ class Execution:
         frame = self.frames[-1]
         function, place, _ = frame
         body = ("function", function)
-        instruction = self.program[1][function][1][place]
-        self._find(body, place, instruction)
-        if not self.access_all(self.extra.get((function, place), []) + besides):
-            self.fail()
-        elif instruction[0] in TAKING_WORDS and self.taken == len(inputs):
-            self.end = "waits"
-        else:
-            passed = self._pass(body, place, instruction)
-            if passed or instruction[0] == "wake":
-                self.path.append((function, place))
-                self._take_place(frame, instruction, passed, inputs)
-            else:
+        instruction = self.instruction()
+        # An instruction that has waited is not come to again: what precedes it is done.
+        if not self.is_waiting:
+            self._find(body, place, instruction)
+            if not self.access_all(self.extra.get((function, place), []) + besides):
                 self.fail()
+                return
+        self.is_waiting = instruction[0] in TAKING_WORDS and self.taken == len(inputs)
+        if self.is_waiting:
+            self.end = "waits"
+            return
+        passed = self._pass(body, place, instruction)
+        if passed or instruction[0] == "wake":
+            self.path.append((function, place))
+            self._take_place(frame, instruction, passed, inputs)
+        else:
+            self.fail()
 
     def access_all(self, units):
         """Access the units that are not broken, one after the other; tell whether none of these accesses fails."""
@@ -199,21 +235,13 @@ class Execution:
             self.end = "done"
 
     def _compute(self, body, place, instruction, slots):
-        """Do what an instruction does that initializers may have, too."""
-        word = instruction[0]
-        if word == "number":
-            slots[instruction[1]] = instruction[2]
-        elif word == "copy":
-            slots[instruction[1]] = slots[instruction[2]]
-        elif word == "add":
-            slots[instruction[1]] = (slots[instruction[1]] + instruction[2]) % (MOST_NUMBER + 1)
-        elif word == "read":
-            _, slot, unit, field = instruction
-            slots[slot] = self.numbers.get((unit, field), 0)
+        """Do what an instruction does that initializers may have, too, and record it."""
+        compute(instruction, slots, self.numbers)
+        if instruction[0] == "read":
+            _, _, unit, field = instruction
             self._see(body, place, unit, self.last.get((unit, field)))
-        else:
-            _, unit, field, slot = instruction
-            self.numbers[(unit, field)] = slots[slot]
+        elif instruction[0] == "write":
+            _, unit, field, _ = instruction
             self._name_write(body, place, unit, field)
 
     def _see(self, body, place, unit, name):

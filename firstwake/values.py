@@ -1,6 +1,8 @@
 """Kinds and limits of plain values, as the arguments of all modules share them."""
 
 MOST_NUMBER = 65535
+# How deep tuples are nested in a key at most.
+DEEPEST = 8
 
 
 def is_integer(thing):
@@ -45,3 +47,20 @@ def _has_boolean(thing):
     if isinstance(thing, (tuple, list)):
         return any([_has_boolean(member) for member in thing])
     return isinstance(thing, bool)
+
+
+def are_members(thing, members):
+    """Tell whether thing is a list of just these members, keys of a dict, each once, in any order."""
+    if not (isinstance(thing, list) and len(thing) == len(members)):
+        return False
+    # What is no key might not even be looked for among keys.
+    if not all([_is_key(one, DEEPEST) for one in thing]):
+        return False
+    return all([one in members for one in thing]) and are_different(thing)
+
+
+def _is_key(thing, deep):
+    """Tell whether thing is built of integers, strings and None, by tuples that are nested at most so deep."""
+    if isinstance(thing, tuple):
+        return deep > 0 and all([_is_key(member, deep - 1) for member in thing])
+    return thing is None or isinstance(thing, str) or is_integer(thing)

@@ -81,3 +81,31 @@ def drawn_plan(program, *seed):
 def drawn_inputs(*seed):
     dice = random.Random(repr(seed))
     return [dice.choice([0, 0, 1, 2, 65535]) for _ in range(dice.choice([0, 1, 2, 3, 5, 8]))]
+
+
+def drawn_locking(*seed, most_units=4, most_functions=3):
+    """Return a small program whose units often use one another, so that threads get into each other's way."""
+    dice = random.Random(repr(seed))
+    many = dice.randint(2, most_units)
+    units = []
+    for unit in range(many):
+        parent = dice.randrange(unit) if unit and dice.random() < 0.3 else None
+        code = [dice.choice([
+            ("read", dice.randrange(3), dice.randrange(many), 0), ("write", dice.randrange(many), 0, dice.randrange(3)),
+            ("number", 0, dice.randrange(9)),
+        ]) for _ in range(dice.choice([0, 1, 1, 2]))]
+        if unit and dice.random() < 0.15:
+            code.insert(dice.randint(0, len(code)), ("fail",))
+        units.append((parent, 1, tuple(code)))
+    functions = []
+    count = dice.randint(1, most_functions)
+    for own in range(count):
+        length = dice.randint(1, 3)
+        code = [dice.choice([
+            ("read", dice.randrange(3), dice.randrange(many), 0), ("write", dice.randrange(many), 0, dice.randrange(3)),
+            ("wake", dice.randrange(many), dice.randint(place + 1, length)), ("branch", dice.randint(0, length)),
+            ("call", dice.randint(own + 1, count - 1)) if own + 1 < count else ("show", dice.randrange(3)),
+            ("input", dice.randrange(3)), ("show", dice.randrange(3)), ("read", 0, dice.randrange(many), 0),
+        ]) for place in range(length)]
+        functions.append((dice.randrange(many), tuple(code)))
+    return tuple(units), tuple(functions)

@@ -2,7 +2,7 @@ import copy
 import inspect
 import unittest
 
-from firstwake import checks, placements, plain, programs, reaches, walks
+from firstwake import checks, pairs, placements, plain, programs, reaches, schedules, threads, walks
 from firstwake.errors import NoProgram
 from tests.samples import (
     BROKEN, EXAMPLES, GREATEST, LEAST, LIBRARY, LOCKED, NO_PROGRAMS, PLACED, RUN, WOKEN, nodes,
@@ -42,6 +42,23 @@ CALLS = [
     (placements.are_walks, ["program", "function", "unit", "prices", "thing"], [PLACED, 0, 1, [5, 1, 1], [([0, 1], 1)]]),
     (placements.are_walks, ["program", "function", "unit", "prices", "thing"], [PLACED, 0, 1, [5, 1, 1], [[[0], {}]]]),
     (placements.placed, ["program", "function", "unit", "places"], [PLACED, 0, 1, [0, 2]]),
+    (pairs.judge, ["program", "plan"], [LOCKED, PLAN]),
+    (pairs.judge, ["program", "plan"], [RUN, ([2], [(("unit", 2), 0)], [])]),
+    (pairs.shows_unnoticed, ["program", "plan", "thing"], [RUN, ([2], [], []), pairs.judge(RUN, ([2], [], []))[1]]),
+    (pairs.shows_unnoticed, ["program", "plan", "thing"], [RUN, ([2], [], []), [((), {}, [[True]])]]),
+    (pairs.quiet, ["program", "unit"], [WOKEN, 2]),
+    (pairs.quiet, ["program", "unit"], [WOKEN, 1]),
+    (pairs.longest, ["program"], [WOKEN]),
+    (threads.first_state, ["program", "starts", "ahead"], [LOCKED, (0, 1), [2]]),
+    (threads.steps, ["program", "starts", "state"], [LOCKED, (0, 1), threads.first_state(LOCKED, (0, 1), [])]),
+    (threads.state_after, ["program", "starts", "ahead", "schedule"], [LOCKED, (0, 1), [0], [(0, 0), (1, 0), (0, 0)]]),
+    (schedules.deadlock, ["program", "starts", "ahead"], [LOCKED, (0, 1), []]),
+    (schedules.deadlock, ["program", "starts", "ahead"], [LOCKED, (0, 1), [1]]),
+    (schedules.deadlock, ["program", "starts", "ahead"], [BROKEN, (0,), [1]]),
+    (schedules.shows_never, ["program", "starts", "ahead", "thing"],
+     [LOCKED, (0, 1), [1], schedules.deadlock(LOCKED, (0, 1), [1])[1]]),
+    (schedules.shows_never, ["program", "starts", "ahead", "thing"], [LOCKED, (0, 1), [], {(): [{}]}]),
+    (schedules.cheapest, ["program", "starts", "prices"], [LOCKED, (0, 1), (0, 1, 5)]),
 ]
 MODULES = {
     programs: ["is_program", "is_inputs", "is_plan", "accesses"],
@@ -50,6 +67,9 @@ MODULES = {
     walks: ["configurations", "are_configurations"],
     checks: ["statuses", "status_run", "early_reads", "early_run", "needless"],
     placements: ["placement", "is_placement", "are_walks", "placed"],
+    pairs: ["judge", "shows_unnoticed", "quiet", "longest"],
+    threads: ["first_state", "steps", "state_after"],
+    schedules: ["deadlock", "shows_never", "cheapest"],
 }
 
 
@@ -118,6 +138,15 @@ class Calls(unittest.TestCase):
         self.assertEqual(placements.placement(PLACED, 0, 1, prices)[0], 2)
         prices[0] = 1
         self.assertEqual(placements.placement(PLACED, 0, 1, prices)[0], 1)
+        ahead = []
+        self.assertEqual(schedules.deadlock(LOCKED, (0, 1), ahead)[0], "deadlock")
+        ahead.append(1)
+        self.assertEqual(schedules.deadlock(LOCKED, (0, 1), ahead)[0], "never")
+        schedule = [(0, 0)]
+        found = [threads.state_after(LOCKED, (0, 1), ahead, schedule)]
+        schedule.append((0, 0))
+        found.append(threads.state_after(LOCKED, (0, 1), ahead, schedule))
+        self.assertEqual([statuses[0] for statuses, _ in found], ["held 0", "awake"])
         thing = walks.configurations(RUN)
         self.assertIs(walks.are_configurations(RUN, thing), True)
         thing.popitem()

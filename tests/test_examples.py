@@ -20,6 +20,18 @@ EXAMPLES = '''
 >>> program = (((None, 0, ()), (None, 1, ())), ((0, (("branch", 2), ("read", 0, 1, 0), ("read", 0, 1, 0))),))
 >>> [placement(program, 0, 1, [5, 1, 1])[:2], placement(program, 0, 1, [1, 1, 1])[:2]]
 [(2, [1, 2]), (1, [0])]
+>>> from firstwake.pairs import judge
+>>> program = (((None, 0, ()), (None, 1, (("number", 0, 7), ("write", 1, 0, 0))), (None, 1, (("read", 0, 1, 0), ("write", 2, 0, 0)))), ((0, (("read", 0, 1, 0), ("read", 0, 2, 0), ("show", 0))),))
+>>> [judge(program, ([2], [], []))[0], judge(program, ([], [(("unit", 2), 0)], []))[0], judge(program, ([2], [(("unit", 2), 0)], []))]
+['unnoticed', 'unnoticed', ('noticed', [])]
+>>> from firstwake.pairs import judge, longest
+>>> program = (((None, 0, ()), (None, 1, ()), (None, 0, (("write", 1, 0, 0),)), (None, 0, (("read", 0, 1, 0),))), ((0, (("write", 1, 0, 0), ("wake", 2, 2), ("wake", 3, 3))),))
+>>> [judge(program, ([2], [], []))[0], judge(program, ([2, 3], [], []))[0], len(longest(program))]
+['noticed', 'unnoticed', 4]
+>>> from firstwake.schedules import deadlock
+>>> program = (((None, 0, ()), (None, 1, (("read", 0, 2, 0),)), (None, 1, (("read", 0, 1, 0),))), ((0, (("read", 0, 1, 0),)), (0, (("read", 0, 2, 0),))))
+>>> [deadlock(program, (0, 1), [])[0], deadlock(program, (0, 1), [1])[0], deadlock(program, (0,), [])[0]]
+['deadlock', 'never', 'never']
 '''
 
 
