@@ -86,7 +86,7 @@ class Machine:
         """Return to what was there when the mark was made."""
         need_mark(number, len(self._marks))
         self._now = self._marks[number].copied()
-        del self._marks[number + 1:]
+        self._marks = self._marks[:number + 1]
 
     def _need_thread(self, thread):
         if not is_index(thread, len(self._now.inputs)):

@@ -5,6 +5,8 @@ from firstwake.programs import accessed_unit
 from firstwake.values import is_integer, is_tuple, is_within
 
 FAILED = "failed"
+# What is found where a check does something, or would.
+NEEDING = ("asleep", "broken", "other")
 
 
 class Threads:
@@ -83,6 +85,16 @@ class Threads:
         if status in self.held:
             status = "self" if status == self.held[thread] else "other"
         return body, place, status
+
+    def all_found(self, state):
+        """Return the list of (body, place, word) for the accesses that threads stand at."""
+        found = [self.found(state, thread) for thread in range(len(self.callers))]
+        return [one for one in found if one is not None]
+
+    def is_needing(self, state, accesses):
+        """Tell whether a thread stands at one of the accesses and finds there what a check is for."""
+        found = self.all_found(state)
+        return any([word in NEEDING and (body, place) in accesses for body, place, word in found])
 
     def cycle(self, state):
         """Return the ascending list of the threads of a cycle in which each is blocked by the next one, or []."""

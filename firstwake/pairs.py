@@ -5,7 +5,7 @@ from itertools import permutations
 from firstwake.errors import TooLong, TooMany
 from firstwake.needs import need_plan
 from firstwake.programs import MOST_INPUTS, need_program, need_unit
-from firstwake.searches import spread
+from firstwake.searches import Search, spread
 from firstwake.sides import NOTICED, Sides
 from firstwake.values import are_members
 
@@ -69,7 +69,9 @@ def _compared(program, plan):
     def follow(pair):
         return [(following, step) for following, step in sides.advanced(pair, []) if not _is_over(following)]
 
-    return spread([] if _is_over(first) else [first], follow, NOTICED)
+    search = Search()
+    spread(search, [] if _is_over(first) else [first], follow, NOTICED)
+    return search
 
 
 def _woken(program, unit):
@@ -88,7 +90,9 @@ def _woken(program, unit):
             if not _is_over(following) and (is_before or not _is_same(following))
         ]
 
-    return spread([] if _is_over(first) else [first], follow, NOTICED)
+    search = Search()
+    spread(search, [] if _is_over(first) else [first], follow, NOTICED)
+    return search
 
 
 def _is_over(following):

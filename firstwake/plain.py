@@ -107,6 +107,26 @@ class Execution:
         """Return what full_run returns."""
         return self.end, self.shown, self.path, self.seen, self.own, self.order, self.finds
 
+    def copied(self):
+        """Return another execution that is the same, and stays so."""
+        other = execution_at(self, self.stack(), self.statuses, {field: self.last[field] for field in self.last})
+        for at, frame in enumerate(self.frames):
+            other.frames[at][2] = list(frame[2])
+        other.numbers = {field: self.numbers[field] for field in self.numbers}
+        other.counts = {spot: self.counts[spot] for spot in self.counts}
+        other.is_begun = self.is_begun
+        other.is_waiting = self.is_waiting
+        other.taken = self.taken
+        other.end = self.end
+        other.shown = list(self.shown)
+        other.path = list(self.path)
+        other.seen = list(self.seen)
+        other.own = {spot: self.own[spot] for spot in self.own}
+        other.order = list(self.order)
+        other.finds = list(self.finds)
+        other.early = list(self.early)
+        return other
+
     def stack(self):
         """Return the tuple of (function, place) of all frames."""
         return tuple([(function, place) for function, place, _ in self.frames])
@@ -119,10 +139,15 @@ class Execution:
     def begin(self, function):
         """Call the function; then its frame stands at its first instruction, if the access of its unit did not fail."""
         self.is_begun = True
+        self.end = None
         if self.access(self.program[1][function][0]):
             self._call(function)
         else:
             self.fail()
+
+    def resume(self):
+        """Let an execution that waits for an input go on."""
+        self.end = None
 
     def fail(self):
         """Give up all frames of functions."""

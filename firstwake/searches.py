@@ -32,19 +32,18 @@ class Search:
         return [step for step in steps if step is not None]
 
 
-def spread(firsts, follow, goal):
-    """Return the Search of what the first states lead to, or of as much as is come to before the goal.
+def spread(search, firsts, follow, goal):
+    """Put into the empty search all that the first states lead to, or as much as is come to before the goal.
 
     follow(state) returns a list of pairs (following state, step), step None where it does not count.
     """
-    search = Search()
     many, now, later = 0, [(state, None, None) for state in firsts], []
     while now:
         state, before, step = now.pop()
         if state == goal:
             search.put(state, many, before, step)
             search.goal = state
-            return search
+            return
         if state not in search.least:
             if len(search.least) == MOST_STATES:
                 raise TooMany("there is too much to come to")
@@ -56,7 +55,6 @@ def spread(firsts, follow, goal):
                     later.append((following, state, taken))
         if not now:
             many, now, later = many + 1, later, []
-    return search
 
 
 def spread_evenly(first, follow, is_goal):

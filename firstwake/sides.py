@@ -16,14 +16,29 @@ class Sides:
 
     def begun(self, ahead):
         """Return what the two come to by the accesses ahead, in one of them, and the call of function 0."""
-        asleep = ("asleep",) * len(self.plain.program[0])
-        both = self.at(((), (asleep, (), ()), (asleep, (), ())))
+        both = self._fresh()
         if both.one.access_all(ahead):
             both.one.begin(0)
         else:
             both.one.fail()
         both.other.begin(0)
         return both.following()
+
+    def idle(self, ahead):
+        """Return the pair after the accesses ahead, before any call; None if one of them fails."""
+        both = self._fresh()
+        return both.following() if both.one.access_all(ahead) else None
+
+    def called(self, pair, function):
+        """Return what the two come to by a call of the function when no call is under way."""
+        both = self.at(pair)
+        both.one.begin(function)
+        both.other.begin(function)
+        return both.following()
+
+    def _fresh(self):
+        asleep = ("asleep",) * len(self.plain.program[0])
+        return self.at(((), (asleep, (), ()), (asleep, (), ())))
 
     def at(self, pair):
         """Return Both, standing where the pair tells."""

@@ -2,7 +2,7 @@
 
 from firstwake.plain import Execution, execution_at
 from firstwake.programs import need_program
-from firstwake.searches import spread
+from firstwake.searches import Search, spread
 from firstwake.values import is_same
 
 
@@ -25,7 +25,7 @@ def all_runs(program):
     execution = Execution(program, ([], [], []))
     execution.begin(0)
     runs.note(execution, None)
-    runs.search = spread([] if execution.end else [_configuration_of(execution)], runs.follow, None)
+    spread(runs.search, [] if execution.end else [_configuration_of(execution)], runs.follow, None)
     return runs
 
 
@@ -39,7 +39,7 @@ class Runs:
     def __init__(self, program):
         self.program = program
         self.model = Execution(program, ([], [], []))
-        self.search = None
+        self.search = Search()
         self.first_finds = {}
         self.first_early = {}
 

@@ -2,10 +2,12 @@ import copy
 import inspect
 import unittest
 
-from firstwake import checks, pairs, placements, plain, programs, reaches, schedules, threads, walks
+from firstwake import (
+    callers, checks, guards, histories, libraries, pairs, placements, plain, programs, reaches, schedules, threads, walks,
+)
 from firstwake.errors import NoProgram
 from tests.samples import (
-    BROKEN, EXAMPLES, GREATEST, LEAST, LIBRARY, LOCKED, NO_PROGRAMS, PLACED, RUN, WOKEN, nodes,
+    BROKEN, EXAMPLES, GREATEST, LEAST, LIBRARY, LOCKED, NO_PROGRAMS, PLACED, RUN, SESSION, WOKEN, nodes,
 )
 
 PLAN = ([2, 0], [(("unit", 1), 0)], [(0, 0, 1)])
@@ -59,6 +61,40 @@ CALLS = [
      [LOCKED, (0, 1), [1], schedules.deadlock(LOCKED, (0, 1), [1])[1]]),
     (schedules.shows_never, ["program", "starts", "ahead", "thing"], [LOCKED, (0, 1), [], {(): [{}]}]),
     (schedules.cheapest, ["program", "starts", "prices"], [LOCKED, (0, 1), (0, 1, 5)]),
+    (libraries.is_history, ["program", "thing"], [LIBRARY, ([0, 1], [5])]),
+    (libraries.is_history, ["program", "thing"], [LIBRARY, ([0, [True]], {})]),
+    (libraries.history_run, ["program", "history", "plan"], [LOCKED, ([0, 1, 0], [3]), PLAN]),
+    (libraries.history_run, ["program", "history", "plan"], [SESSION, ([0, 0, 0], [3, 4]), ([0], [], [])]),
+    (histories.library_configurations, ["program"], [LIBRARY]),
+    (histories.are_library_configurations, ["program", "thing"], [SESSION, histories.library_configurations(SESSION)]),
+    (histories.are_library_configurations, ["program", "thing"], [SESSION, {((), ("asleep",)): [0, {}]}]),
+    (histories.library_statuses, ["program"], [LOCKED]),
+    (histories.library_needless, ["program"], [LOCKED]),
+    (histories.status_history, ["program", "body", "place", "status"], [LOCKED, ("function", 1), 0, "awake"]),
+    (histories.status_history, ["program", "body", "place", "status"], [LOCKED, ("function", 1), 0, "broken"]),
+    (histories.judge_library, ["program", "plan"], [LOCKED, PLAN]),
+    (histories.judge_library, ["program", "plan"], [LIBRARY, ([], [(("function", 1), 0)], [])]),
+    (histories.judge_library, ["program", "plan"], [BROKEN, ([1], [], [])]),
+    (histories.shows_library_unnoticed, ["program", "plan", "thing"],
+     [RUN, ([2], [], []), histories.judge_library(RUN, ([2], [], []))[1]]),
+    (histories.shows_library_unnoticed, ["program", "plan", "thing"], [RUN, ([2], [], []), [((), {}, [[True]])]]),
+    (callers.caller_state, ["program", "callers", "ahead"], [LOCKED, (0, "open"), [2]]),
+    (callers.caller_steps, ["program", "callers", "unchecked", "state"],
+     [LOCKED, (0, "open"), [(("function", 0), 0)], callers.caller_state(LOCKED, (0, "open"), [])]),
+    (guards.caller_finds, ["program", "callers", "ahead"], [LOCKED, (0, "open"), [0]]),
+    (guards.caller_finds, ["program", "callers", "ahead"], [BROKEN, (0, "open"), [1]]),
+    (guards.spared, ["program", "callers", "ahead"], [LOCKED, (0, "open"), [1]]),
+    (guards.find_schedule, ["program", "callers", "ahead", "body", "place", "word"],
+     [LOCKED, (0, "open"), [0], ("function", 1), 0, "other"]),
+    (guards.find_schedule, ["program", "callers", "ahead", "body", "place", "word"],
+     [LOCKED, (0, "open"), [0], ("function", 1), 0, "broken"]),
+    (guards.cycle_schedule, ["program", "callers", "ahead"], [LOCKED, (0, "open"), [0]]),
+    (guards.half, ["program", "callers", "ahead", "unchecked"], [LOCKED, (0, "open"), [0], [(("function", 1), 0)]]),
+    (guards.half, ["program", "callers", "ahead", "unchecked"], [LOCKED, (0, "open"), [1], [(("function", 1), 0)]]),
+    (guards.shows_no_half, ["program", "callers", "ahead", "unchecked", "thing"],
+     [LOCKED, (0, "open"), [1], [(("function", 1), 0)], guards.half(LOCKED, (0, "open"), [1], [(("function", 1), 0)])[1]]),
+    (guards.shows_no_half, ["program", "callers", "ahead", "unchecked", "thing"], [LOCKED, (0, "open"), [1], [], {(): [{}]}]),
+    (guards.guard, ["program", "callers", "accesses", "prices"], [LOCKED, (0, 1), [(("unit", 2), 0)], (0, 1, 5)]),
 ]
 MODULES = {
     programs: ["is_program", "is_inputs", "is_plan", "accesses"],
@@ -70,6 +106,13 @@ MODULES = {
     pairs: ["judge", "shows_unnoticed", "quiet", "longest"],
     threads: ["first_state", "steps", "state_after"],
     schedules: ["deadlock", "shows_never", "cheapest"],
+    libraries: ["is_history", "history_run"],
+    histories: [
+        "library_configurations", "are_library_configurations", "library_statuses", "library_needless", "status_history",
+        "judge_library", "shows_library_unnoticed",
+    ],
+    callers: ["caller_state", "caller_steps"],
+    guards: ["caller_finds", "spared", "find_schedule", "cycle_schedule", "half", "shows_no_half", "guard"],
 }
 
 
@@ -147,6 +190,16 @@ class Calls(unittest.TestCase):
         schedule.append((0, 0))
         found.append(threads.state_after(LOCKED, (0, 1), ahead, schedule))
         self.assertEqual([statuses[0] for statuses, _ in found], ["held 0", "awake"])
+        history = ([0], [])
+        found = [libraries.history_run(SESSION, history, ([], [], []))]
+        history[1].append(5)
+        history[0].append(0)
+        found.append(libraries.history_run(SESSION, history, ([], [], [])))
+        self.assertEqual([one[0] for one in found], [["waits"], ["done", "waits"]])
+        unchecked = []
+        self.assertEqual(guards.half(LOCKED, (0, 1), [], unchecked)[0], "never")
+        unchecked.append((("unit", 2), 0))
+        self.assertEqual(guards.half(LOCKED, (0, 1), [], unchecked)[0], "half")
         thing = walks.configurations(RUN)
         self.assertIs(walks.are_configurations(RUN, thing), True)
         thing.popitem()

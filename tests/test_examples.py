@@ -1,4 +1,4 @@
-"""The examples of the document, word for word, that the modules so far can run."""
+"""The examples of the document, word for word."""
 
 import doctest
 import unittest
@@ -32,6 +32,22 @@ EXAMPLES = '''
 >>> program = (((None, 0, ()), (None, 1, (("read", 0, 2, 0),)), (None, 1, (("read", 0, 1, 0),))), ((0, (("read", 0, 1, 0),)), (0, (("read", 0, 2, 0),))))
 >>> [deadlock(program, (0, 1), [])[0], deadlock(program, (0, 1), [1])[0], deadlock(program, (0,), [])[0]]
 ['deadlock', 'never', 'never']
+>>> from firstwake.histories import judge_library
+>>> from firstwake.pairs import judge
+>>> program = (((None, 0, ()), (None, 1, (("number", 0, 7), ("write", 1, 0, 0)))), ((0, (("read", 0, 1, 0), ("call", 1))), (0, (("read", 0, 1, 0), ("show", 0)))))
+>>> plan = ([], [(("function", 1), 0)], [])
+>>> [judge(program, plan)[0], judge_library(program, plan)]
+['unnoticed', ('noticed', ([1], []))]
+>>> from firstwake.libraries import Session
+>>> program = (((None, 0, ()),), ((0, (("input", 0), ("show", 0))),))
+>>> session = Session(program, ([], [], []))
+>>> [session.call(0), session.stands(), session.mark(), session.feed(5), session.stands(), session.record()[:2], session.back(0), session.stands(), session.history(), len(session)]
+[None, 'waits', 0, None, 'idle', (['done'], [5]), None, 'waits', ([0], []), 1]
+>>> from firstwake.guards import guard
+>>> program = (((None, 0, ()), (None, 1, (("read", 0, 2, 0),)), (None, 1, (("read", 0, 1, 0),))), ((0, (("read", 0, 1, 0),)), (0, (("read", 0, 2, 0),))))
+>>> found = guard(program, (0, 1), [(("unit", 2), 0)], (0, 1, 5))
+>>> [found[:2], sorted(found[2]), [len(found[2][key][1]) for key in sorted(found[2])]]
+[(1, (0, 1)), [(), (0,)], [4, 2]]
 '''
 
 
