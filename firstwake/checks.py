@@ -9,10 +9,7 @@ from firstwake.walks import all_runs
 def statuses(program):
     """Return a dict from each access that some run comes to to the ascending tuple of the statuses it finds there."""
     need_program(program)
-    found = {}
-    for body, place, status in sorted(all_runs(program).first_finds):
-        found.setdefault((body, place), []).append(status)
-    return {access: tuple(found[access]) for access in found}
+    return told_statuses(all_runs(program).first_finds)
 
 
 def status_run(program, body, place, status):
@@ -42,7 +39,19 @@ def early_run(program, body, place):
 def needless(program):
     """Return the ascending list of the accesses, not of a "wake", whose check does nothing in any run."""
     need_program(program)
-    found = all_runs(program).first_finds
+    return unneeded(program, all_runs(program).first_finds)
+
+
+def told_statuses(found):
+    """Return a dict from each access in a dict of finds to the ascending tuple of its statuses there."""
+    told = {}
+    for body, place, status in sorted(found):
+        told.setdefault((body, place), []).append(status)
+    return {access: tuple(told[access]) for access in told}
+
+
+def unneeded(program, found):
+    """Return the ascending list of the accesses, not of a "wake", that a dict of finds has not as asleep or broken."""
     return [
         (body, place) for body, place in checked_accesses(program)
         if (body, place, "asleep") not in found and (body, place, "broken") not in found

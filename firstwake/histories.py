@@ -1,9 +1,10 @@
 """Histories: what all histories of a program come to, and whether a plan can be noticed by one."""
 
+from firstwake.checks import told_statuses, unneeded
 from firstwake.errors import TooLong
 from firstwake.needs import need_access, need_plan, need_status
 from firstwake.plain import Execution, execution_at
-from firstwake.programs import checked_accesses, need_program
+from firstwake.programs import need_program
 from firstwake.searches import Search, spread
 from firstwake.sides import NOTICED, Sides
 from firstwake.values import are_members, is_same
@@ -30,20 +31,13 @@ def are_library_configurations(program, thing):
 def library_statuses(program):
     """Return a dict from each access that some history comes to to the ascending tuple of the statuses found there."""
     need_program(program)
-    found = {}
-    for body, place, status in sorted(_all_histories(program).first_finds):
-        found.setdefault((body, place), []).append(status)
-    return {access: tuple(found[access]) for access in found}
+    return told_statuses(_all_histories(program).first_finds)
 
 
 def library_needless(program):
     """Return the ascending list of the accesses, not of a "wake", whose check does nothing in any history."""
     need_program(program)
-    found = _all_histories(program).first_finds
-    return [
-        (body, place) for body, place in checked_accesses(program)
-        if (body, place, "asleep") not in found and (body, place, "broken") not in found
-    ]
+    return unneeded(program, _all_histories(program).first_finds)
 
 
 def status_history(program, body, place, status):

@@ -132,7 +132,7 @@ class Threads:
         if body[0] in ("start", "call"):
             function = self.callers[thread] if body[0] == "start" else body[1]
             return [(0, _with(statuses, threads, thread, (*below, (body, place), (("function", function), 0))))]
-        if body in self.codes and place == len(self.codes[body]):
+        if place == len(self.codes[body]):
             return [(0, self._ended(state, thread))]
         word = self._word(body, place)
         if word == "fail":
@@ -197,7 +197,7 @@ class Threads:
             return is_within(place, 0 if self.program[0][body[1]][0] is None else -1, len(self.codes[body]))
         if body[0] == "call":
             return below[0][0] == "open" and is_within(body[1], 0, len(self.program[1]) - 1) and place == 0
-        if body[0] != "function" or body not in self.codes or not is_within(place, 0, len(self.codes[body])):
+        if body not in self.codes or not is_within(place, 0, len(self.codes[body])):
             return False
         if below[0][0] == "start":
             return body[1] == self.callers[thread]

@@ -92,7 +92,6 @@ class Execution:
         self.counts = {}
         self.frames = []
         self.is_begun = False
-        self.is_waiting = False
         self.taken = 0
         self.end = None
         self.shown = []
@@ -115,7 +114,6 @@ class Execution:
         other.numbers = {field: self.numbers[field] for field in self.numbers}
         other.counts = {spot: self.counts[spot] for spot in self.counts}
         other.is_begun = self.is_begun
-        other.is_waiting = self.is_waiting
         other.taken = self.taken
         other.end = self.end
         other.shown = list(self.shown)
@@ -147,6 +145,7 @@ class Execution:
 
     def resume(self):
         """Let an execution that waits for an input go on."""
+        # The extra accesses before the instruction do nothing a second time: their units are awake or broken by now.
         self.end = None
 
     def fail(self):
@@ -160,22 +159,18 @@ class Execution:
         function, place, _ = frame
         body = ("function", function)
         instruction = self.instruction()
-        # An instruction that has waited is not come to again: what precedes it is done.
-        if not self.is_waiting:
-            self._find(body, place, instruction)
-            if not self.access_all(self.extra.get((function, place), []) + besides):
-                self.fail()
-                return
-        self.is_waiting = instruction[0] in TAKING_WORDS and self.taken == len(inputs)
-        if self.is_waiting:
-            self.end = "waits"
-            return
-        passed = self._pass(body, place, instruction)
-        if passed or instruction[0] == "wake":
-            self.path.append((function, place))
-            self._take_place(frame, instruction, passed, inputs)
-        else:
+        self._find(body, place, instruction)
+        if not self.access_all(self.extra.get((function, place), []) + besides):
             self.fail()
+        elif instruction[0] in TAKING_WORDS and self.taken == len(inputs):
+            self.end = "waits"
+        else:
+            passed = self._pass(body, place, instruction)
+            if passed or instruction[0] == "wake":
+                self.path.append((function, place))
+                self._take_place(frame, instruction, passed, inputs)
+            else:
+                self.fail()
 
     def access_all(self, units):
         """Access the units that are not broken, one after the other; tell whether none of these accesses fails."""

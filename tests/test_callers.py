@@ -129,7 +129,7 @@ class Unchecked(unittest.TestCase):
             found = dict(caller_steps(program, ("open", "open"), [(("function", 0), 0)], state))
             self.assertEqual(found[(0, 0)], (("awake", status), ((OPEN, call(0), function(1)), rest)))
             checked = dict(caller_steps(program, ("open", "open"), [(("function", 1), 0)], state))
-            self.assertNotEqual(checked.get((0, 0)), found[(0, 0)]) if status != "awake" else None
+            self.assertEqual(checked.get((0, 0)) == found[(0, 0)], status == "awake")
             state = ("awake", status), ((OPEN, call(1), function(1, 1)), rest)
             found = dict(caller_steps(program, ("open", "open"), [(("function", 1), 1)], state))
             self.assertEqual(found[(0, 0)], (("awake", status), ((OPEN, call(1), function(1, 1), function(0, 2)), rest)))

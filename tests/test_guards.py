@@ -255,7 +255,10 @@ class Half(Compared):
 
     def test_a_half_access_has_no_table(self):
         unchecked = [(("function", 0), 0)]
-        for thing in [{}, half(self.STATES, (0,), [], [])[1], Case(self.STATES, (0,), [], unchecked).states]:
+        whole = Case(self.STATES, (0,), [], unchecked).states
+        many = len(half(self.STATES, (0,), [], unchecked)[1])
+        parts = [{state: least for state, least in whole.items() if least <= most} for most in range(many + 3)]
+        for thing in [{}, half(self.STATES, (0,), [], [])[1], whole, *parts]:
             self.assertIs(shows_no_half(self.STATES, (0,), [], unchecked, thing), False)
 
 

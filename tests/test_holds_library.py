@@ -136,10 +136,11 @@ class Histories(unittest.TestCase):
                     session.call(dice.randrange(len(program[1])))
                 elif choice < 0.8:
                     session.feed(dice.choice([0, 1, 9]))
-                elif choice < 0.9 or session.mark() == 0:
-                    session.mark()
                 else:
-                    session.back(dice.randrange(session.mark()))
+                    # The newest mark may be gone back to, too.
+                    newest = session.mark()
+                    if choice > 0.9:
+                        session.back(dice.randrange(newest + 1))
                 self.assertEqual(session.record(), history_run(program, session.history(), plan))
 
 

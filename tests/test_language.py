@@ -237,6 +237,44 @@ class Language(unittest.TestCase):
                 elif isinstance(node, ast.FunctionDef):
                     self.assertEqual(node.decorator_list, [], file)
 
+    def test_attributes_are_assigned_through_a_name(self):
+        for file in FILES:
+            for node in ast.walk(tree_of(file)):
+                if isinstance(node, ast.Attribute) and not isinstance(node.ctx, ast.Load):
+                    self.assertIsInstance(node.value, ast.Name, (file, node.lineno))
+
+    def test_no_name_is_a_method_and_an_attribute(self):
+        methods, attributes = set(), set()
+        for file in FILES:
+            for node in ast.walk(tree_of(file)):
+                if isinstance(node, ast.ClassDef):
+                    methods.update(part.name for part in node.body if isinstance(part, ast.FunctionDef))
+                elif isinstance(node, ast.Attribute) and not isinstance(node.ctx, ast.Load):
+                    attributes.add(node.attr)
+        self.assertEqual(methods & attributes, set())
+
+    def test_a_package_with_equal_and_measured_objects(self):
+        # Much is barred then from a "try", so there is none; and no list is sorted in place.
+        for file in FILES:
+            for node in ast.walk(tree_of(file)):
+                self.assertNotIsInstance(node, ast.Try, file)
+                if isinstance(node, ast.Attribute):
+                    self.assertNotEqual(node.attr, "sort", file)
+                if isinstance(node, ast.FunctionDef) and node.name == "__len__":
+                    self.assertEqual([ast.unparse(part).split("(")[0] for part in node.body], ["return len"], file)
+
+    def test_what_a_loop_goes_over_is_not_changed_in_it(self):
+        changing = {"append", "clear", "extend", "insert", "pop", "remove", "reverse", "setdefault", "update"}
+        for file in FILES:
+            for loop in ast.walk(tree_of(file)):
+                if isinstance(loop, ast.For):
+                    over = gone_over(loop.iter)
+                    for node in [part for row in loop.body for part in ast.walk(row)]:
+                        if isinstance(node, ast.Call) and isinstance(node.func, ast.Attribute) and node.func.attr in changing:
+                            self.assertNotIn(ast.unparse(node.func.value), over, (file, node.lineno))
+                        if isinstance(node, ast.Subscript) and not isinstance(node.ctx, ast.Load):
+                            self.assertNotIn(ast.unparse(node.value), over, (file, node.lineno))
+
     def test_is_stands_beside_none(self):
         for file in FILES:
             for node in ast.walk(tree_of(file)):
@@ -262,6 +300,15 @@ class Language(unittest.TestCase):
 def tree_of_body(file, wanted):
     """Return the module-level statements that are written like the wanted one, in a list with it if there is one."""
     return [wanted for node in tree_of(file).body if ast.dump(node) == ast.dump(wanted)]
+
+
+def gone_over(node):
+    """Return the texts of what a loop over this goes over, itself or through a view of it."""
+    if isinstance(node, ast.Call) and isinstance(node.func, ast.Name) and node.func.id in ("enumerate", "zip", "reversed"):
+        return {text for part in node.args for text in gone_over(part)}
+    if isinstance(node, ast.Call) and isinstance(node.func, ast.Attribute) and node.func.attr in ("items", "keys", "values"):
+        return {ast.unparse(node.func.value)}
+    return {ast.unparse(node)}
 
 
 def is_set(node):

@@ -180,6 +180,20 @@ class Finds(unittest.TestCase):
         self.compare(program)
         self.assertEqual(sorted(len(status_history(program, ("unit", 2), 0, "asleep")[0]) for _ in range(2)), [1, 1])
 
+    def test_a_find_in_a_call_before_one_by_the_next_call(self):
+        # With one input the call goes on and wakes unit 2; with another one it ends, and only the next call wakes it.
+        units = (FIRST, EMPTY, (None, 0, (("read", 0, 3, 0),)), (None, 1, ()))
+        for code, history in [
+            ((("wake", 3, 1), ("branch", 3), ("wake", 2, 3)), ([0], [0])),
+            ((("wake", 3, 1), ("branch", 3), ("branch", 4), ("wake", 2, 4)), None),
+        ]:
+            program = (units, ((0, code), (2, (SHOW,))))
+            self.compare(program)
+            found = status_history(program, ("unit", 2), 0, "awake")
+            self.assertEqual(len(found[0]) + len(found[1]), 2)
+            if history is not None:
+                self.assertEqual(found, history)
+
     def test_accesses_that_are_never_come_to(self):
         program = ((FIRST, FAILS, (None, 1, ())), ((0, (("fail",), ("read", 0, 2, 0))), (1, (("read", 0, 2, 0),))))
         self.assertEqual(self.compare(program), {})

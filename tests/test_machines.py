@@ -234,6 +234,10 @@ class Methods(unittest.TestCase):
         machine.step(2)
         self.assertEqual(machine.cycle(), [0, 1, 2])
         self.assertEqual([machine.stands(thread) for thread in range(3)], [("blocked", 2), ("blocked", 3), ("blocked", 1)])
+        # It is told in ascending order, whoever waits for whom.
+        machine = stepped(Machine(ring, (0, 2, 1), [0]), 0, 1, 2, 0, 1, 2)
+        self.assertEqual([machine.stands(thread) for thread in range(3)], [("blocked", 2), ("blocked", 1), ("blocked", 3)])
+        self.assertEqual(machine.cycle(), [0, 1, 2])
         # A thread that waits for one of a cycle is no part of it.
         program = (LOCKED[0], LOCKED[1] + ((0, (("read", 0, 2, 0),)),))
         machine = stepped(Machine(program, (2, 0, 1), [0]), 0, 1, 2, 1, 2)
@@ -331,6 +335,16 @@ class Methods(unittest.TestCase):
             self.assertEqual((machine.output(0), machine.stands(0)), ([4, 5], "done"))
             machine.back(0)
             self.assertEqual(machine.output(0), [])
+
+    def test_slots_and_fields_come_back(self):
+        code = [("number", 0, 5), ("read", 1, 1, 0), ("add", 0, 1), ("add", 1, 1), ("write", 1, 0, 1), ("show", 0), ("show", 1)]
+        machine = stepped(Machine(one_function([FIRST, (None, 1, ())], *code), (0,), [0, 1]), 0, 0, 0)
+        machine.mark()
+        for _ in range(3):
+            while machine.stands(0) == "moves":
+                machine.step(0)
+            self.assertEqual(machine.output(0), [6, 1])
+            machine.back(0)
 
     def test_no_marks(self):
         machine = Machine(LOCKED, (0, 1), [])

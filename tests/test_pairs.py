@@ -240,16 +240,12 @@ class Sentences(Compared):
 
     def test_what_is_read_behind_a_wake_that_fails_so(self):
         # Both fail behind it, but an initializer that runs then sees another write in each of them.
-        for seen, inputs in [(4, 0), (5, None)]:
-            units = [FIRST, FAILS, (None, 0, (("read", 0, 1, 0), ("write", 4, 0, 0))), (None, 0, (("read", 0, seen, 0), ("fail",))),
-                     (None, 1, ()), (None, 1, ())]
-            program = one_function(units, ("wake", 2, 2), ("read", 0, 1, 0), ("read", 0, 1, 0))
-            plan = plan_of((), [(("unit", 2), 0)], [(0, 1, 3), (0, 2, 3)])
-            self.assertEqual(self.compare(program, plan)[0], "unnoticed")
-            program = ((*units[:2], units[2], units[3]) + tuple(units[4:]), ((0, (("wake", 2, 2), ("call", 1), ("call", 2))),
-                       (3, (("show", 0),)), (3, (("show", 0),))))
-            found = self.compare(program, plan_of((), [(("unit", 2), 0)]))
-            self.assertEqual(found[0], "unnoticed" if inputs is None else "noticed")
+        for seen, answer in [(4, "noticed"), (5, "unnoticed")]:
+            units = (FIRST, FAILS, (None, 0, (("read", 0, 1, 0), ("write", 4, 0, 0))),
+                     (None, 0, (("read", 0, seen, 0), ("fail",))), (None, 1, ()), (None, 1, ()))
+            shown = (3, (("show", 0),))
+            program = (units, ((0, (("wake", 2, 2), ("call", 1), ("call", 2))), shown, shown))
+            self.assertEqual(self.compare(program, plan_of((), [(("unit", 2), 0)]))[0], answer)
 
     def test_extra_accesses_before_an_instruction_that_waits(self):
         program = one_function([FIRST, FAILS], ("show", 0), ("input", 0))

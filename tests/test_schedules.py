@@ -169,6 +169,11 @@ class ShowsNever(unittest.TestCase):
                       deadlock(CROSSED, (0, 0), [])[1]]:
             self.assert_none(thing)
         self.assertIs(shows_never(CROSSED, (0, 1), [], self.states), False)
+        # Not even what is come to before a deadlock.
+        whole = oracle.reached(CROSSED, (0, 1), [])
+        for most in range(max(whole.values()) + 1):
+            part = {state: many for state, many in whole.items() if many <= most}
+            self.assertIs(shows_never(CROSSED, (0, 1), [], part), False)
         self.assertIs(shows_never(CROSSED, self.STARTS, [3], {}), False)
 
 
@@ -285,12 +290,19 @@ class Bounds(unittest.TestCase):
         self.assertRaises(TooMany, deadlock, program, (0, 1), [1])
 
     def test_cheapest_does_not_look_behind_the_first_one(self):
+        # With the units 0 and 1 ahead there are fewer states than with unit 1 alone, which stands behind them.
+        units = ((None, 0, (("number", 0, 0),) * 6), *LOCKED[0][1:], FIRST)
+        rest = (("call", 2),) * 4 + (SHOW, ("wake", 0, 7))
+        program = (units, ((3, (("read", 0, 1, 0),) + rest), (3, (("read", 0, 2, 0),) + rest), (3, (SHOW,) * 7)))
+        price, found, bars = cheapest(program, (0, 1), (0, 1, 1, 9))
+        self.assertEqual((price, found, sorted(bars)), (1, (0, 1), [(), (0,)]))
+        self.assertRaises(TooMany, deadlock, program, (0, 1), [1])
+        self.assertRaises(TooMany, cheapest, program, (0, 1), (1, 0, 1, 9))
+
+    def test_too_many_for_the_first_tuple(self):
         long = (("call", 2),) * 7
-        codes = ((0, (("read", 0, 1, 0),)), (0, (("read", 0, 2, 0),)), (0, (SHOW,)))
-        self.assertEqual(cheapest((LOCKED[0], codes), (0, 1), (0, 0, 0))[1], (0, 1))
         codes = ((0, (("wake", 3, 1),) + long), (0, (("wake", 3, 1),) + long), (0, (("call", 3),) * 8), (0, (SHOW,) * 8))
-        units = (*LOCKED[0], EMPTY)
-        self.assertRaises(TooMany, cheapest, (units, codes), (0, 1), (1, 1, 1, 1))
+        self.assertRaises(TooMany, cheapest, ((*LOCKED[0], EMPTY), codes), (0, 1), (1, 1, 1, 1))
 
 
 if __name__ == "__main__":

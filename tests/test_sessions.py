@@ -269,6 +269,25 @@ class Methods(unittest.TestCase):
             self.assertEqual(session.record()[1], [0, 0, 4])
         self.assertEqual(session.mark(), 1)
 
+    def test_slots_and_fields_come_back(self):
+        program = ((FIRST, (None, 1, ())), ((0, (("number", 0, 5), ("read", 1, 1, 0), ("input", 2), ("add", 0, 1), ("add", 1, 1),
+                                                ("write", 1, 0, 1), ("show", 0), ("show", 1))),))
+        session = Session(program, NOTHING)
+        session.call(0)
+        session.mark()
+        for _ in range(3):
+            session.feed(0)
+            self.assertEqual(session.record()[1], [6, 1])
+            session.back(0)
+        session.feed(0)
+        session.call(0)
+        session.mark()
+        for _ in range(3):
+            session.feed(0)
+            self.assertEqual(session.record()[1], [6, 1, 6, 2])
+            self.assertEqual(session.record(), history_run(program, session.history(), NOTHING))
+            session.back(1)
+
     def test_equal_sessions(self):
         one, other = Session(WAITING, NOTHING), Session(WAITING, NOTHING)
         self.assertIs(one == other, True)
